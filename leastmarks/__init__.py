@@ -1,0 +1,1 @@
+"""Leastmarks: a compiler for a language with owned values."""

@@ -1,0 +1,55 @@
+"""What a value of a caller is: a row, a tuple of a size, a name.
+
+A caller may pass any object, so each of these looks at what a value is
+before it measures or compares it.
+"""
+
+LETTERS = "abcdefghijklmnopqrstuvwxyz"
+WORDS = (
+    "kind", "record", "choice", "module", "function", "let", "new", "move", "call", "ask", "drop", "if", "else",
+    "match", "try", "loop", "break", "next", "return", "fail", "block", "item",
+)
+LONGEST_NAME = 8
+
+
+def is_row(value):
+    """Whether a value is a list or a tuple."""
+    return isinstance(value, (list, tuple))
+
+
+def is_tuple(value, size):
+    """Whether a value is a tuple with so many elements."""
+    return isinstance(value, tuple) and len(value) == size
+
+
+def is_name(value):
+    """Whether a value can be the name of something in a program."""
+    if not isinstance(value, str) or not 1 <= len(value) <= LONGEST_NAME:
+        return False
+    return value not in WORDS and all([sign in LETTERS for sign in value])
+
+
+def is_named_row(value, size, least, most):
+    """Whether a value is a row of tuples of one size that begin with distinct names."""
+    if not is_row(value) or not least <= len(value) <= most:
+        return False
+    names = []
+    for element in value:
+        if not is_tuple(element, size) or not is_name(element[0]) or element[0] in names:
+            return False
+        names.append(element[0])
+    return True
+
+
+def is_function_name(value, functions):
+    """Whether a value is a key of a dict whose keys are pairs of strings."""
+    if not is_tuple(value, 2) or not isinstance(value[0], str) or not isinstance(value[1], str):
+        return False
+    return value in functions
+
+
+def nested(value):
+    """The value with a tuple for every row in it."""
+    if is_row(value):
+        return tuple([nested(element) for element in value])
+    return value
