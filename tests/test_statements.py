@@ -375,6 +375,34 @@ class OrderTest(unittest.TestCase):
                 for name, outer, at in around([second]):
                     self.assertEqual(found(first, *outer), (row, why), name)
 
+    def test_deep_and_end(self):
+        deep = ("new", ("x",))
+        for _ in range(6):
+            deep = ("block", [deep])
+        for other, why in self.FAULTS:
+            row = 1 if why == "row" else 0
+            self.assertEqual(found(deep, other), (6, "deep"))
+            self.assertEqual(found(other, deep), (row, why))
+            self.assertEqual(body_fault([deep, other], X, "item"), (6, "deep"))
+            self.assertEqual(body_fault([other], X, "item"), (row, why))
+        self.assertEqual(body_fault([deep], X, "item"), (6, "deep"))
+        self.assertEqual(body_fault([("block", [])], X, "item"), (1, "end"))
+
+    def test_three_faults(self):
+        for first, why in self.FAULTS:
+            for second, other_why in self.FAULTS:
+                for third, _ in self.FAULTS:
+                    row = 1 if why == "row" else 0
+                    self.assertEqual(found(first, second, third), (row, why))
+                    modules = modules_of([("block", []), second, third], X)
+                    self.assertEqual(fault(KINDS, modules), (("first", "t"), (other_why == "row") + 1, other_why))
+                    modules[0][1][0] = ("main", [], None, [("let", "y", "item"), ("new", ("x",)), first])
+                    self.assertEqual(fault(KINDS, modules), (("first", "main"), 1, "place"))
+                    modules[0][1][0] = ("main", [("y", "item")], None, [first])
+                    self.assertEqual(fault(KINDS, modules), (None, -1, "main"))
+                    self.assertEqual(fault(KINDS, [*modules, 5]), (None, 2, "modules"))
+                    self.assertEqual(fault([*KINDS, 5], [*modules, 5]), (None, 3, "kinds"))
+
     def test_statement_before_those_in_its_bodies(self):
         bad = [("new", ("no",))]
         self.assertEqual(found(("match", ("y",), [(None, bad), ("u", bad), ("v", bad)])), (0, "place"))
