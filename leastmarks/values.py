@@ -1,4 +1,4 @@
-"""What a value of a caller is: a row, a tuple of a size, a name.
+"""What a value of a caller is: a row, a tuple of a size, a number, a name.
 
 A caller may pass any object, so each of these looks at what a value is
 before it measures or compares it.
@@ -20,6 +20,16 @@ def is_row(value):
 def is_tuple(value, size):
     """Whether a value is a tuple with so many elements."""
     return isinstance(value, tuple) and len(value) == size
+
+
+def is_integer(value):
+    """Whether a value is an integer; True and False are none."""
+    return isinstance(value, int) and not isinstance(value, bool)
+
+
+def is_index(value, size):
+    """Whether a value is the number of one of so many things."""
+    return is_integer(value) and 0 <= value < size
 
 
 def is_name(value):

@@ -34,7 +34,12 @@ STATEMENTS = (
 INTERFACE = {
     "errors": "MarkError NoProgram NoText NoFunction NoPoint NoPlan HasFaults NoChoices NoStops NoLowered NoWrites "
               "NoSpare NoImage NoModule",
-    "programs": "Program", "texts": "show read"}
+    "programs": "Program", "texts": "show read", "plans": "Plan",
+    "outcomes": "outcomes proof_of judge_proof entered",
+    "states": "states faults fault_path decision both_ways"}
+METHODS_LISTED = {
+    "Program": ("programs", "__eq__ functions leaves"),
+    "Plan": ("plans", "__eq__ points number")}
 
 
 def nodes(kind):
@@ -116,6 +121,10 @@ class ImportsTest(unittest.TestCase):
             names = [n.name for n in TREES[name].body if isinstance(n, (ast.FunctionDef, ast.ClassDef))]
             for word in defined.split():
                 self.assertIn(word, names)
+        for name, (file, listed) in METHODS_LISTED.items():
+            (found,) = [n for n in TREES[file].body if isinstance(n, ast.ClassDef) and n.name == name]
+            defined = {n.name for n in found.body if isinstance(n, ast.FunctionDef)}
+            self.assertLessEqual(set(listed.split()), defined)
 
 
 class CodeTest(unittest.TestCase):
@@ -200,6 +209,8 @@ class CodeTest(unittest.TestCase):
                 if isinstance(node, ast.Call) and isinstance(node.func, ast.Name):
                     if node.func.id in ("list", "tuple", "dict", "sorted", "sum", "any", "all", "enumerate", "zip"):
                         fine.update(node.args[:1])
+                    if node.func.id in ("len", "reversed") and ast.unparse(node.args[0]).startswith("range("):
+                        fine.update(node.args)
             for node in ast.walk(tree):
                 if isinstance(node, ast.Call) and isinstance(node.func, ast.Name) and node.func.id in lazy:
                     self.assertIn(node, fine, place(name, node))

@@ -7,6 +7,7 @@ from leastmarks.errors import NoProgram
 from leastmarks.programs import Program
 from leastmarks.texts import read, show
 from tests.grammar import first_bad, tokens_of
+from tests.growing import all_bodies
 from tests.helpers import KINDS, modules_of
 
 PARAMETERS = [("x", "pair"), ("s", "shade"), ("b", "box")]
@@ -36,17 +37,6 @@ def some_statement(chance):
     if word == "return":
         return (word, None)
     return (word, *[chance.choice(PLACES) for _ in range(2 if word == "move" else 1)])
-
-
-def all_bodies(body):
-    """The body and all bodies in it."""
-    yield body
-    for statement in body:
-        inner = [part for part in statement[1:] if isinstance(part, list) and statement[0] not in ("call", "ask")]
-        if statement[0] == "match":
-            inner = [arm[1] for arm in statement[2]]
-        for part in inner:
-            yield from all_bodies(part)
 
 
 def grown(seed):
