@@ -42,6 +42,7 @@ class Graph:
         self.numbers = {leaf: number for number, leaf in enumerate(leaf_row, start=FIRST)}
         self.set_rows = [settings(action) for action, _ in steps]
         self._alike = None
+        self._faults = None
         self._stops = None
         self._living = None
 
@@ -93,10 +94,16 @@ class Graph:
             return "filled"
         return "empty" if number == NONE else "both"
 
-    def is_fault(self, at):
-        """Whether the action of a point takes a value from a leaf that is empty on some path."""
-        leaf = used_leaf(self.steps[at][0])
-        return leaf is not None and self.state(at, leaf) in ("empty", "both")
+    def faults(self):
+        """The list of the pairs (at, leaf) where a value is taken from a leaf that is empty on some path."""
+        if self._faults is None:
+            used = [(at, used_leaf(action)) for at, (action, _) in enumerate(self.steps)]
+            self._faults = [(at, leaf) for at, leaf in used if leaf is not None and self.may_be_empty(at, leaf)]
+        return self._faults
+
+    def may_be_empty(self, at, leaf):
+        """Whether a leaf is empty at a point on some path."""
+        return self.state(at, leaf) in ("empty", "both")
 
     def decided(self, at):
         """What is done at a drop: "always", "never" or "marked"; None for a point with another action."""

@@ -1,5 +1,6 @@
 """Paths and ways in the graph of a function, and what leaves are on them."""
 
+from leastmarks.searching import search, walked
 from leastmarks.values import is_index
 
 
@@ -8,59 +9,28 @@ def path_to(graph, at, leaves, wanted):
 
     The states of the leaves are a tuple of bools, True for filled.
     """
-    start = (0, tuple([False for _ in leaves]))
-    before = {start: None}
-    queue = [start]
-    done = 0
-    while done < len(queue):
-        here = queue[done]
-        done += 1
-        point, states = here
-        if point == at and states in wanted:
-            return points_back(before, here)
-        row = graph.set_rows[point]
-        states = tuple([row.get(leaf, state) for leaf, state in zip(leaves, states)])
-        for after in graph.ways[point]:
-            if (after, states) not in before:
-                before[(after, states)] = here
-                queue.append((after, states))
+    before = search((0, tuple([False for _ in leaves])), lambda here: states_behind(graph, leaves, here))
+    for here in before:
+        if here[0] == at and here[1] in wanted:
+            return tuple([point for point, _ in walked(before, here)])
     return None
 
 
-def points_back(before, here):
-    """The points of the pairs that lead to a pair."""
-    path = []
-    while here is not None:
-        path.append(here[0])
-        here = before[here]
-    return tuple(path[::-1])
+def states_behind(graph, leaves, here):
+    """The list of the pairs (point, states of the leaves) that follow such a pair."""
+    point, states = here
+    row = graph.set_rows[point]
+    behind = tuple([row.get(leaf, state) for leaf, state in zip(leaves, states)])
+    return [(after, behind) for after in graph.ways[point]]
 
 
 def way_from(graph, at, leaf, stops):
-    """A shortest way from a point to a drop of the leaf or to a stop, on which no point before sets the leaf."""
-    before = {at: None}
-    queue = [at]
-    done = 0
-    while done < len(queue):
-        point = queue[done]
-        done += 1
+    """A shortest way from a point to a drop of the leaf or to a stop on which nothing sets the leaf before, or None."""
+    before = search(at, lambda point: [] if leaf in graph.set_rows[point] else graph.ways[point])
+    for point in before:
         if is_asked(graph, point, leaf, stops):
-            return back_from(before, point)
-        if leaf not in graph.set_rows[point]:
-            for after in graph.ways[point]:
-                if after not in before:
-                    before[after] = point
-                    queue.append(after)
+            return tuple(walked(before, point))
     return None
-
-
-def back_from(before, point):
-    """The points that lead to a point."""
-    way = []
-    while point is not None:
-        way.append(point)
-        point = before[point]
-    return tuple(way[::-1])
 
 
 def is_asked(graph, at, leaf, stops):

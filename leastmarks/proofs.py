@@ -4,6 +4,8 @@
 return, "failed" for one that can fail.
 """
 
+from leastmarks.searching import search, walked
+
 WORDS = ("returned", "failed")
 
 
@@ -17,26 +19,7 @@ def passable(point, found):
 
 def reached(points, found):
     """A dict from each point that a path reaches to the point before it on a shortest one (None at the first)."""
-    before = {0: None}
-    queue = [0]
-    done = 0
-    while done < len(queue):
-        at = queue[done]
-        done += 1
-        for after in passable(points[at], found):
-            if after not in before:
-                before[after] = at
-                queue.append(after)
-    return before
-
-
-def walked(before, at):
-    """The path to a point that was reached."""
-    path = []
-    while at is not None:
-        path.append(at)
-        at = before[at]
-    return tuple(path[::-1])
+    return search(0, lambda at: passable(points[at], found))
 
 
 def proofs(points):
@@ -67,7 +50,7 @@ def end_paths(points, found):
     for word in WORDS:
         ends = [at for at in before if points[at][0] == ("end", word)]
         if len(ends) > 0:
-            paths.append((word, walked(before, ends[0])))
+            paths.append((word, tuple(walked(before, ends[0]))))
     return paths
 
 

@@ -16,10 +16,7 @@ def faults(plan):
     """The sorted list of all (name, at, leaf) where the leaf is used and is empty on some path."""
     found = []
     for name in plan.program.functions():
-        graph = plan.graph(name)
-        for at, (action, _) in enumerate(graph.steps):
-            if graph.is_fault(at):
-                found.append((name, at, used_leaf(action)))
+        found.extend([(name, at, leaf) for at, leaf in plan.graph(name).faults()])
     return sorted(found)
 
 
@@ -34,9 +31,10 @@ def fault_path(plan, name, at):
     """A path to the point of a fault on which its leaf is empty."""
     graph = plan.graph(name)
     graph.check(at)
-    if not graph.is_fault(at):
+    leaf = used_leaf(graph.steps[at][0])
+    if leaf is None or not graph.may_be_empty(at, leaf):
         raise NoPoint(at)
-    return path_to(graph, at, [used_leaf(graph.steps[at][0])], [(False,)])
+    return path_to(graph, at, [leaf], ((False,),))
 
 
 def decision(plan, name, at):
@@ -56,4 +54,4 @@ def both_ways(plan, name, at):
     if graph.decided(at) != "marked":
         raise NoPoint(at)
     leaf = graph.steps[at][0][1]
-    return tuple([path_to(graph, at, [leaf], [(state,)]) for state in (True, False)])
+    return tuple([path_to(graph, at, [leaf], ((state,),)) for state in (True, False)])

@@ -36,10 +36,12 @@ INTERFACE = {
               "NoSpare NoImage NoModule",
     "programs": "Program", "texts": "show read", "plans": "Plan",
     "outcomes": "outcomes proof_of judge_proof entered",
-    "states": "states faults fault_path decision both_ways"}
+    "states": "states faults fault_path decision both_ways", "runs": "run", "lowered": "Lowered",
+    "pending": "pending classes", "marks": "fewest lower shown judge_lowered judge_shown"}
 METHODS_LISTED = {
     "Program": ("programs", "__eq__ functions leaves"),
-    "Plan": ("plans", "__eq__ points number")}
+    "Plan": ("plans", "__eq__ points number"),
+    "Lowered": ("lowered", "__eq__ __len__ __call__")}
 
 
 def nodes(kind):

@@ -1,0 +1,12 @@
+"""Runs of plans."""
+
+from leastmarks.choices import check_choices
+from leastmarks.machines import Machine
+from leastmarks.states import refuse_faults
+
+
+def run(plan, choices):
+    """The log and the word of a run."""
+    refuse_faults(plan)
+    check_choices(choices)
+    return Machine(plan, choices).run()
