@@ -94,7 +94,7 @@ class Graph:
             return "filled"
         return "empty" if number == NONE else "both"
 
-    def faults(self):
+    def found_faults(self):
         """The list of the pairs (at, leaf) where a value is taken from a leaf that is empty on some path."""
         if self._faults is None:
             used = [(at, used_leaf(action)) for at, (action, _) in enumerate(self.steps)]

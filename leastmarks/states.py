@@ -16,7 +16,7 @@ def faults(plan):
     """The sorted list of all (name, at, leaf) where the leaf is used and is empty on some path."""
     found = []
     for name in plan.program.functions():
-        found.extend([(name, at, leaf) for at, leaf in plan.graph(name).faults()])
+        found.extend([(name, at, leaf) for at, leaf in plan.graph(name).found_faults()])
     return sorted(found)
 
 
