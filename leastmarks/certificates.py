@@ -10,10 +10,7 @@ PARTED = ((True, False), (False, True))
 def certificate(graph, stops):
     """A certificate with one leaf of each class at the first point that has the most classes."""
     groups = all_groups(graph, stops)
-    most = most_groups(groups)
-    if most == 0:
-        return (0, (), {}, ())
-    at = [len(row) for row in groups].index(most)
+    at = [len(row) for row in groups].index(most_groups(groups))
     leaves = tuple([group[0] for group in groups[at]])
     ways = tuple([way_from(graph, at, leaf, stops) for leaf in leaves])
     return (at, leaves, parting_paths(graph, at, leaves), ways)

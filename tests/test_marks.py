@@ -124,6 +124,13 @@ class FewestTest(MarksTest):
         writes = lower(plain(body), {}).parts[T][2]
         self.assertTrue([row for row in writes.values() if any(type(what) is int for _, what in row)])
 
+    def test_a_class_keeps_its_mark(self):
+        # The leaf a is dropped first and stands first among the classes; b goes on with the mark that it has.
+        body = "let b item let a item if { new b } else { } if { new a } else { } ask f() ask g()"
+        self.assertEqual(self.few(body), 2)
+        writes = lower(plain(body), {}).parts[T][2]
+        self.assertEqual([row for row in writes.values() if any(type(what) is int for _, what in row)], [])
+
     def test_grown_programs(self):
         most = 0
         for seed in range(40):

@@ -140,7 +140,8 @@ class JudgeTest(unittest.TestCase):
 
     def test_path(self):
         for path in [(0,), (1,), (1, 6), (6,), (0, 6), (0, 1), (0, 1, 6, 6), (0, 1, 2), (0, 1, 1, 6), (0, 7), (0, 1, -1),
-                     (-7, 1, 6), (0, 1, 10 ** 29), (0, 1, 6, 0, 1, 6), (0, 3, 2)]:
+                     (-7, 1, 6), (0, 1, 10 ** 29), (0, 1, 6, 0, 1, 6), (0, 3, 2), (0, 7, 6),
+                     (0, -1, 6), (0, 10 ** 29, 6), (0, 1, 99, 6)]:
             self.assertEqual(judge(changed(0, path=path)), "path", path)
         self.assertEqual(judge(changed(1, path=(0, 1, 6))), "path")
         self.assertEqual(judge(changed(6, path=(0, 2))), "path")
