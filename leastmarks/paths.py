@@ -9,16 +9,16 @@ def path_to(graph, at, leaves, wanted):
 
     The states of the leaves are a tuple of bools, True for filled.
     """
-    before = search((0, tuple([False for _ in leaves])), lambda here: states_behind(graph, leaves, here))
+    before = search((0, tuple([False for _ in leaves])), lambda pair: states_behind(graph, leaves, pair))
     for here in before:
         if here[0] == at and here[1] in wanted:
             return tuple([point for point, _ in walked(before, here)])
     return None
 
 
-def states_behind(graph, leaves, here):
+def states_behind(graph, leaves, pair):
     """The list of the pairs (point, states of the leaves) that follow such a pair."""
-    point, states = here
+    point, states = pair
     row = graph.set_rows[point]
     behind = tuple([row.get(leaf, state) for leaf, state in zip(leaves, states)])
     return [(after, behind) for after in graph.ways[point]]
