@@ -16,6 +16,10 @@ class Frame:
         self.filled = {leaf: False for leaf in graph.leaf_row}
         self.marks = []
 
+    def here(self):
+        """The name of the function, and the point."""
+        return (self.name, self.at)
+
     def action(self):
         """The action of the point."""
         return self.home.steps[self.at][0]

@@ -1,6 +1,7 @@
 """Parts of lowered programs: the count, the reads and the writes of one function."""
 
 from leastmarks.values import is_index, is_row, is_tuple
+from leastmarks.writes import is_write, marks_of
 
 MOST_MARKS = 99
 
@@ -36,18 +37,11 @@ def is_read(graph, value):
 
 def writes_fit(count, row):
     """Whether a value is a row of writes with distinct marks."""
-    if not is_row(row) or not all([is_write(count, write) for write in row]):
+    if not is_row(row) or not all([is_write(write) for write in row]):
+        return False
+    if not all([mark < count for write in row for mark in marks_of(write)]):
         return False
     return len({mark for mark, _ in row}) == len(row)
-
-
-def is_write(count, value):
-    """Whether a value is a write of one of so many marks."""
-    if not is_tuple(value, 2) or not is_index(value[0], count):
-        return False
-    if isinstance(value[1], str):
-        return value[1] in ("on", "off")
-    return is_index(value[1], count)
 
 
 def copied_part(part):

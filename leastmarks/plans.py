@@ -19,14 +19,17 @@ class Plan:
         self.shared = shared
         self._graphs = {}
         self._numbers = {}
+        self._caught = {}
         written = {name: plain_points(program, name) for name in program.functions()}
-        found = known_words({name: points for name, (points, _) in written.items()})
-        for name, (points, failing) in written.items():
+        self._found = known_words({name: points for name, (points, _, _) in written.items()})
+        for name, (points, failing, caught) in written.items():
             numbers = list(range(len(points)))
             if shared:
                 points, numbers = merged(points, failing)
-            self._graphs[name] = Graph(points, program.leaves(name), [passable(point, found) for point in points])
+            ways = [passable(point, self._found) for point in points]
+            self._graphs[name] = Graph(points, program.leaves(name), ways)
             self._numbers[name] = numbers
+            self._caught[name] = {number: known for number, known in zip(numbers, caught)}
 
     def __eq__(self, other):
         # An object of a subclass is one of another class, so isinstance alone would take too much.
@@ -39,6 +42,14 @@ class Plan:
         if not is_function_name(name, self._graphs):
             raise NoFunction(name)
         return self._graphs[name]
+
+    def can(self, name, word):
+        """Whether a function can return, for the word "returned", or can fail, for "failed"."""
+        return (name, word) in self._found
+
+    def is_caught(self, name, at):
+        """Whether a call or an ask, if it fails, goes on with the second body of a try."""
+        return self._caught[name][at]
 
     def points(self, name):
         """The list of all points of a function."""

@@ -19,6 +19,7 @@ class Writer:
         self.leaf_row = leaves
         self.written = []
         self.failing = []
+        self.caught = []
         self.spots = []
         self.scopes = []
         self.loops = []
@@ -37,6 +38,7 @@ class Writer:
         """Writes a row."""
         self.written.append((action, labels))
         self.failing.append(False)
+        self.caught.append(len(self.tries) > 0)
 
     def write_each(self, word, place):
         """Writes a point with the word for each leaf of a place."""
@@ -201,21 +203,18 @@ class Writer:
             self.jump(again if word == "next" else after)
 
     def numbered(self):
-        """The list of the points, and the list that tells of each whether it is one of a failure."""
-        numbers = []
-        many = 0
-        for action, _ in self.written:
-            numbers.append(many)
-            if action is not None:
-                many += 1
+        """The list of the points, and two lists that tell of each whether it is one of a failure, and is caught.
+
+        A point is caught where the second body of a try goes on after a failure at it.
+        """
+        kept = [at for at, (action, _) in enumerate(self.written) if action is not None]
+        numbers = {at: number for number, at in enumerate(kept)}
         points = []
-        failing = []
-        for at, (action, labels) in enumerate(self.written):
-            if action is not None:
-                spots = [at + 1] if labels is None else [self.spots[label] for label in labels]
-                points.append((action, tuple([numbers[self.landing(spot)] for spot in spots])))
-                failing.append(self.failing[at])
-        return points, failing
+        for at in kept:
+            action, labels = self.written[at]
+            spots = [at + 1] if labels is None else [self.spots[label] for label in labels]
+            points.append((action, tuple([numbers[self.landing(spot)] for spot in spots])))
+        return points, [self.failing[at] for at in kept], [self.caught[at] for at in kept]
 
     def landing(self, spot):
         """The number of the first row from a spot on that is no jump."""
@@ -225,7 +224,7 @@ class Writer:
 
 
 def plain_points(program, name):
-    """The list of the points of a function, and the list that tells of each whether it is one of a failure."""
+    """The list of the points of a function, and what `numbered` tells of each."""
     parameters, _, body = program.function(name)
     writer = Writer(program.leaves(name))
     writer.write_function(parameters, body)

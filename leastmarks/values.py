@@ -60,6 +60,28 @@ def is_function_name(value, functions):
 
 def nested(value):
     """The value with a tuple for every row in it."""
-    if is_row(value):
-        return tuple([nested(element) for element in value])
-    return value
+    return rebuilt(value, False)
+
+
+def copied(value):
+    """The value with all rows in it made anew."""
+    return rebuilt(value, True)
+
+
+def rebuilt(value, listed):
+    """The value with new rows in it; all are tuples, unless lists are to stay lists."""
+    # What nobody has checked yet may be nested deeper than calls should be.
+    levels = [([value], [], True)]
+    while True:
+        rest, built, is_list = levels.pop()
+        if len(rest) > 0:
+            element = rest.pop()
+            levels.append((rest, built, is_list))
+            if is_row(element):
+                levels.append((list(element)[::-1], [], listed and isinstance(element, list)))
+            else:
+                built.append(element)
+        elif len(levels) > 0:
+            levels[-1][1].append(built if is_list else tuple(built))
+        else:
+            return built[0]

@@ -37,11 +37,16 @@ INTERFACE = {
     "programs": "Program", "texts": "show read", "plans": "Plan",
     "outcomes": "outcomes proof_of judge_proof entered",
     "states": "states faults fault_path decision both_ways", "runs": "run", "lowered": "Lowered",
-    "pending": "pending classes", "marks": "fewest lower shown judge_lowered judge_shown"}
+    "pending": "pending classes", "marks": "fewest lower shown judge_lowered judge_shown", "prices": "prices",
+    "sequences": "sequence", "frames": "frame", "images": "Image", "traces": "trace active", "builds": "Build",
+    "debugs": "Debug"}
 METHODS_LISTED = {
     "Program": ("programs", "__eq__ functions leaves"),
     "Plan": ("plans", "__eq__ points number"),
-    "Lowered": ("lowered", "__eq__ __len__ __call__")}
+    "Lowered": ("lowered", "__eq__ __len__ __call__"),
+    "Image": ("images", "__eq__ rows table __call__"),
+    "Build": ("builds", "put remove image compiled contents"),
+    "Debug": ("debugs", "go log look")}
 
 
 def nodes(kind):
