@@ -1,7 +1,8 @@
 """Code, executed by the words of section 15 alone, and walked beside the points that it stands for."""
 
 from leastmarks.frames import frame
-from tests.oracle import Whole, least_outcomes, passable
+from leastmarks.plans import Plan
+from tests.oracle import Whole, least_outcomes
 
 LOGGED = {"make": "made", "give": "given", "free": "freed", "open": "opened", "drop": "dropped"}
 # The numbers behind the word: s a slot, m a mark that is written or copied, t a mark that is tested, r a row, p a point.
@@ -102,16 +103,45 @@ class Executing:
                     return None
 
 
+def walk_all(image):
+    """Holds all functions of an image against their points."""
+    return {name: Walking(image, name).check() for name in image.lowered.plan.program.functions()}
+
+
 def executed(image, choices):
     """The log and the word of a run of the rows."""
     done = Executing(image, choices)
     return (done.log, done.word)
 
 
+def calls_in(body, caught=False):
+    """For each call in a body, in the order of the text, whether a try goes on after its failure."""
+    for statement in body:
+        if statement[0] == "call":
+            yield caught
+        elif statement[0] == "match":
+            for _, inner in statement[2]:
+                yield from calls_in(inner, caught)
+        elif statement[0] == "try":
+            yield from calls_in(statement[1], True)
+            yield from calls_in(statement[2], caught)
+        elif statement[0] in ("if", "block", "loop"):
+            for inner in statement[1:]:
+                yield from calls_in(inner, caught)
+
+
+def caught_calls(plan, name):
+    """The points of the calls whose failure goes on with a second body."""
+    calls = [at for at, (action, _) in enumerate(Plan(plan.program, False).points(name)) if action[0] == "call"]
+    flags = list(calls_in(plan.program.function(name)[2]))
+    assert len(calls) == len(flags)
+    return {plan.number(name, at) for at, flag in zip(calls, flags) if flag}
+
+
 class Walking:
     """The rows of one function of an image beside its points; raises AssertionError where they do not fit."""
 
-    def __init__(self, image, name, caught):
+    def __init__(self, image, name):
         plan = image.lowered.plan
         self.name = name
         self.rows = image.rows(name)
@@ -122,7 +152,7 @@ class Walking:
         self.whole = Whole(plan, name, self.found)
         self.points = self.whole.points
         self.functions = plan.program.functions()
-        self.caught = caught
+        self.caught = caught_calls(plan, name)
         self.calls = {}
 
     def check(self):
