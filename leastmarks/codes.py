@@ -30,8 +30,8 @@ class Code:
 class Coder:
     """Writes the rows of one function.
 
-    A spot is a pair (rows, at): the rows of marks that belong to an edge, and the point to which it leads. Rows that
-    lead on name spots, until it is known where these begin. Each spot that is reached is written once.
+    A spot is a pair (rows, at): the rows of marks that belong to an edge, and the point at which there is something to
+    do behind it. Rows that lead on name spots, until it is known where these begin. Each spot is written once.
     """
 
     def __init__(self, lowered, name):
@@ -48,7 +48,7 @@ class Coder:
 
     def write_all(self):
         """Writes the rows of all points to which a path leads."""
-        self.later(((), 0))
+        self.later(((), self.busy(0)))
         done = 0
         while done < len(self.waiting):
             if self.waiting[done] not in self.begins:
@@ -60,9 +60,26 @@ class Coder:
         self.waiting.append(spot)
         return spot
 
+    def mark_rows(self, at, after):
+        """The tuple of the rows that do the writes of an edge."""
+        return tuple(sequence(self.writes.get((at, after), ()), self.count))
+
     def spot(self, at, after):
         """The spot of an edge."""
-        return (tuple(sequence(self.writes.get((at, after), ()), self.count)), after)
+        return (self.mark_rows(at, after), self.busy(after))
+
+    def busy(self, at):
+        """The first point from one on that has rows, or has rows of marks behind it."""
+        while self.is_silent(at):
+            after = self.home.steps[at][1][0]
+            if len(self.mark_rows(at, after)) > 0:
+                return at
+            at = after
+        return at
+
+    def is_silent(self, at):
+        """Whether a point itself has no rows."""
+        return self.home.steps[at][0][0] == "empty" or self.home.decided(at) == "never"
 
     def write_from(self, spot):
         """Writes a spot and those that follow it, up to one that is written already or to the end of a way."""
@@ -92,7 +109,7 @@ class Coder:
             self.written.append(("ask", self.later(self.spot(at, nexts[1]))))
         elif word == "loop":
             self.written.append(action)
-        elif word != "empty":
+        elif not self.is_silent(at):
             self.write_values(at, action)
         return self.spot(at, nexts[0])
 
@@ -110,13 +127,11 @@ class Coder:
             self.written.append((word, *slots))
 
     def write_drop(self, at, leaf):
-        """Writes a drop, with the test of its mark if it has one; a drop that is never done has no rows."""
-        decided = self.home.decided(at)
-        if decided == "marked":
+        """Writes a drop, with the test of its mark if it has one."""
+        if self.home.decided(at) == "marked":
             # The drop is one row, and there is always a row behind it.
             self.written.append(("test", self.tested[(at, leaf)], len(self.written) + 2))
-        if decided != "never":
-            self.written.append(("drop", at, self.slots[leaf]))
+        self.written.append(("drop", at, self.slots[leaf]))
 
     def write_call(self, at):
         """Writes a call, and returns what follows its return, or its failure if it never returns."""
@@ -135,7 +150,7 @@ class Coder:
         if self.plan.is_caught(self.name, at):
             return True
         at = self.home.steps[at][1][1]
-        while self.home.steps[at][0][0] == "drop" and self.home.decided(at) == "never":
+        while self.is_silent(at):
             at = self.home.steps[at][1][0]
         return self.home.steps[at][0][0] == "drop"
 

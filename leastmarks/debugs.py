@@ -28,7 +28,8 @@ class Debug:
         self._stands = machine.word is None
         if not self._stands:
             return ("end", machine.word)
-        return ("stop", *machine.frames[-1].here())
+        name, at = machine.frames[-1].here()
+        return ("stop", name, at)
 
     def log(self):
         """The log so far."""

@@ -46,7 +46,8 @@ class Rows:
     def write_all(self, spare):
         """Writes all rows."""
         wanted = {what: True for what in self.sources.values()}
-        for mark in [mark for mark in self.sources if mark not in wanted]:
+        free = [mark for mark in self.sources if mark not in wanted]
+        for mark in free:
             self.write_from(mark)
         # What is left are cycles, and no mark outside of them has a value of theirs.
         for mark in list(self.sources):

@@ -95,6 +95,13 @@ class TablesTest(unittest.TestCase):
         calls = calls_of(rows)
         self.assertEqual([told[:2] for told in table], [(calls[0], calls[-1])])
 
+    def test_failures_that_drop_nothing_are_joined(self):
+        # Each of both failures has a drop of y of its own, but y is empty.
+        rows, table = self.told("let x item try { let y item call lib.may() call lib.may() new y } else { new x }")
+        one, other = calls_of(rows)
+        ((first, last, landing),) = table
+        self.assertEqual((first, last, rows[landing][0]), (one, other, "make"))
+
     def test_plain_failures_land_apart(self):
         rows, table = self.told("call lib.may() call lib.may()", "t(x item)")
         self.assertEqual([told[:2] for told in table], [(at, at) for at in calls_of(rows)])
