@@ -7,7 +7,6 @@ from leastmarks.lowered import Lowered
 from leastmarks.placing import placed_part
 from leastmarks.plans import Plan
 from leastmarks.programs import Program
-from leastmarks.proofs import WORDS
 from leastmarks.states import refuse_faults
 from leastmarks.values import copied, nested
 
@@ -82,4 +81,4 @@ def basis_of(plan, name):
 def promise_of(plan, name):
     """What callers of a function depend on: its parameters, its result, whether it can return and can fail."""
     parameters, result, _ = plan.program.function(name)
-    return (parameters, result, *[plan.can(name, word) for word in WORDS])
+    return (parameters, result, plan.can(name, "returned"), plan.can(name, "failed"))

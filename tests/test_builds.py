@@ -119,7 +119,12 @@ class ContentsTest(BuildTest):
         functions = [("main", [], None, body), ("f", [("p", "item")], None, [])]
         kinds = copy.deepcopy(KINDS)
         build = Build(kinds)
+        build.put(("b", []))
         build.put(("a", functions))
+        other = self.build(("a", []), ("b", []))
+        other.put(("a", functions))
+        build.remove("b")
+        other.remove("b")
         kept, wanted = build.contents(), copy.deepcopy(functions)
         kinds[0][2].append(("c", "item"))
         kinds.clear()
@@ -128,8 +133,9 @@ class ContentsTest(BuildTest):
         functions[1][1].clear()
         functions.append(5)
         body.append(None)
-        self.assertEqual(build.contents(), kept)
-        self.check(build, [("a", wanted)], [A, ("a", "f")])
+        for told in (build, other):
+            self.assertEqual(told.contents(), kept)
+            self.check(told, [("a", wanted)], [A, ("a", "f")])
 
     def test_nothing_is_checked_before_image(self):
         for functions in (None, 5, "main", {}, [5], [None, ()], [("main", [], None)], [["main", [], None, []]],
